@@ -55,20 +55,35 @@ def posterior_fraction(model, signal):
     return lowest_terms(joint_test_parts(model)[signal], probability_part(model, signal))
 
 
+def half_difference(test_parts, production_parts, whole):
+    """Give half the sum of the differences between the parts, which are over whole."""
+    total = 0
+    for test_part, production_part in zip(test_parts, production_parts):
+        total += abs(test_part - production_part)
+    return lowest_terms(total, 2 * whole)
+
+
+def greater_sum(test_parts, production_parts, whole):
+    """Give the sum of the greater one of each two parts, which are over whole."""
+    total = 0
+    for test_part, production_part in zip(test_parts, production_parts):
+        total += max(test_part, production_part)
+    return lowest_terms(total, whole)
+
+
 def variation_fraction(model):
     """Give the total variation distance."""
-    total = 0
-    for test_part, production_part in zip(test_share_parts(model), production_share_parts(model)):
-        total += abs(test_part - production_part)
-    return lowest_terms(total, 2 * share_whole(model))
+    return half_difference(test_share_parts(model), production_share_parts(model), share_whole(model))
 
 
 def accuracy_fraction(model):
     """Give the best accuracy."""
-    total = 0
-    for test_part, production_part in zip(joint_test_parts(model), joint_production_parts(model)):
-        total += max(test_part, production_part)
-    return lowest_terms(total, joint_whole(model))
+    return greater_sum(joint_test_parts(model), joint_production_parts(model), joint_whole(model))
+
+
+def blind_fraction(model):
+    """Give the blind accuracy."""
+    return lowest_terms(max(model.prior_num, model.prior_den - model.prior_num), model.prior_den)
 
 
 def likelier_kinds(model):

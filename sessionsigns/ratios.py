@@ -16,3 +16,11 @@ def lowest_terms(num, den):
     """Give num / den in lowest terms; den is above 0."""
     divisor = greatest_common_divisor(num, den)
     return [num // divisor, den // divisor]
+
+
+def power(base, exponent):
+    """Give base to the exponent, which is not below 0."""
+    product = 1
+    for step in range(exponent):
+        product *= base
+    return product

@@ -12,6 +12,16 @@ class Model:
         self.prior_den = 2
 
 
+def copy_model(model):
+    """Give a model of its own with the same fields, on which a change can be tried."""
+    copied = Model(model.signal_count)
+    copied.test_weights = list(model.test_weights)
+    copied.production_weights = list(model.production_weights)
+    copied.prior_num = model.prior_num
+    copied.prior_den = model.prior_den
+    return copied
+
+
 class Instance:
     """The object that the calls of one list are made on."""
 

@@ -59,6 +59,46 @@ def best_guesses():
     return call(10)
 
 
+def blind_accuracy():
+    return call(11)
+
+
+def merge_signals(*mapping):
+    return call(12, *mapping)
+
+
+def preview_merge(*mapping):
+    return call(13, *mapping)
+
+
+def sequence_total_variation(length):
+    return call(14, length)
+
+
+def sequence_accuracy(length):
+    return call(15, length)
+
+
+def sequence_posterior(*signals):
+    return call(16, *signals)
+
+
+def set_shares(mask):
+    return call(17, mask)
+
+
+def best_detector(num, den):
+    return call(18, num, den)
+
+
+def widest_gap_set():
+    return call(19)
+
+
+def accuracy_for_prior(num, den):
+    return call(20, num, den)
+
+
 def joined(calls):
     return [number for one in calls for number in one]
 
@@ -99,18 +139,35 @@ def ask_model(model, *calls):
     return ask(*made, *calls)[len(made):]
 
 
-def fraction_answer(value):
-    return [0, value.numerator, value.denominator]
+def fraction_answer(*values):
+    """What is answered of these fractions behind a 0."""
+    return [0] + [number for value in values for number in (value.numerator, value.denominator)]
+
+
+def fraction_of(numbers):
+    """The fraction that two answered numbers tell, after a look at their form."""
+    if len(numbers) != 2:
+        raise AssertionError(f"no fraction: {numbers}")
+    value = Fraction(*numbers)
+    if numbers != [value.numerator, value.denominator]:
+        raise AssertionError(f"not in lowest terms: {numbers}")
+    return value
 
 
 def answered_fraction(answer):
-    """The fraction of an answer, after a look at its form."""
-    if len(answer) != 3 or answer[0] != 0:
-        raise AssertionError(f"no fraction: {answer}")
-    value = Fraction(answer[1], answer[2])
-    if answer[1:] != [value.numerator, value.denominator]:
-        raise AssertionError(f"not in lowest terms: {answer}")
-    return value
+    """The fraction of an answer that has a 0 ahead of it."""
+    if answer[0] != 0:
+        raise AssertionError(f"no 0 ahead: {answer}")
+    return fraction_of(answer[1:])
+
+
+# What is answered of these two tells the whole state of a model; the second leaves another prior.
+STATE = [get_weights(), set_prior(0, 1)]
+
+
+def state_answers(tests, productions, num, den):
+    """What is answered of STATE when the state is this."""
+    return [[len(tests), *tests, *productions], [0, num, den]]
 
 
 def joint_probabilities(model):

@@ -3,8 +3,10 @@
 import unittest
 
 from tests.calling import (
-    GREATEST, NO_MODEL, OUTSIDE_LIMITS, ask, ask_last, best_accuracy, best_guesses, call, certainty, create,
-    get_weights, posterior, set_prior, set_production_weights, set_test_weights, signal_probability, total_variation,
+    GREATEST, NO_MODEL, OUTSIDE_LIMITS, accuracy_for_prior, ask, ask_last, best_accuracy, best_detector, best_guesses,
+    blind_accuracy, call, certainty, create, get_weights, merge_signals, posterior, preview_merge, sequence_accuracy,
+    sequence_posterior, sequence_total_variation, set_prior, set_production_weights, set_shares, set_test_weights,
+    signal_probability, total_variation, widest_gap_set,
 )
 
 WEIGHT_SETTERS = ((set_test_weights, 1), (set_production_weights, 2))
@@ -15,7 +17,15 @@ CALLS_ON_A_MODEL = [
     set_prior(1, 2), set_prior(1, 0), set_prior(2, 1), set_prior(GREATEST, GREATEST),
     get_weights(), signal_probability(0), signal_probability(5), signal_probability(GREATEST),
     posterior(0), posterior(5), posterior(GREATEST), certainty(0), certainty(5), certainty(GREATEST),
-    total_variation(), best_accuracy(), best_guesses(),
+    total_variation(), best_accuracy(), best_guesses(), blind_accuracy(),
+    merge_signals(0, 0), merge_signals(), merge_signals(GREATEST), merge_signals(*[0] * 8),
+    preview_merge(0, 0), preview_merge(), preview_merge(GREATEST), preview_merge(*[0] * 8),
+    sequence_total_variation(0), sequence_total_variation(4), sequence_total_variation(GREATEST),
+    sequence_accuracy(0), sequence_accuracy(4), sequence_accuracy(GREATEST),
+    sequence_posterior(), sequence_posterior(0), sequence_posterior(GREATEST), sequence_posterior(*[0] * 7),
+    set_shares(0), set_shares(32), set_shares(GREATEST),
+    best_detector(1, 2), best_detector(1, 0), best_detector(2, 1), best_detector(0, GREATEST),
+    widest_gap_set(), accuracy_for_prior(1, 2), accuracy_for_prior(1, 0), accuracy_for_prior(2, 1),
 ]
 
 
@@ -32,6 +42,8 @@ class NoModelYet(unittest.TestCase):
                 self.assertEqual(ask(one), [NO_MODEL])
 
     def test_also_one_behind_another_and_behind_a_failed_create(self):
+        self.assertEqual({one[0] for one in CALLS_ON_A_MODEL}, set(range(1, 21)))
+        self.assertLess(len(CALLS_ON_A_MODEL), 60)
         refused = [NO_MODEL] * len(CALLS_ON_A_MODEL)
         self.assertEqual(ask(*CALLS_ON_A_MODEL), refused)
         self.assertEqual(ask(create(0), *CALLS_ON_A_MODEL), [OUTSIDE_LIMITS] + refused)
